@@ -1,0 +1,1 @@
+"""A processor of words of thirty-six bits."""

@@ -1,0 +1,71 @@
+"""The calls on the machine: a list of calls in, the list of their answers out."""
+
+from wordthirtysix.state import PLACES, WORD_LIMIT, State
+
+CLEAR = 1
+PUT = 2
+GET = 3
+MOVE_PC = 4
+
+# By a call's number: how many whole numbers stand behind it.
+NUMBERS_BEHIND = {1: 0, 2: 2, 3: 1, 4: 1}
+
+DONE = 0
+REFUSED = -1
+STAYS = -1
+
+
+def is_place(at):
+    return 0 <= at < PLACES
+
+
+def clear_all(state):
+    state.reset()
+    return DONE
+
+
+def put_word(state, at, x):
+    if not is_place(at) or x >= WORD_LIMIT:
+        return REFUSED
+    state.keep_word(at, x)
+    return DONE
+
+
+def get_word(state, at):
+    if not is_place(at):
+        return REFUSED
+    return state.word_at(at)
+
+
+def move_pc(state, at):
+    before = state.pc
+    if at == STAYS:
+        return before
+    if not is_place(at):
+        return REFUSED
+    state.pc = at
+    return before
+
+
+def answer_call(state, call, numbers):
+    if call == CLEAR:
+        return clear_all(state)
+    if call == PUT:
+        return put_word(state, numbers[0], numbers[1])
+    if call == GET:
+        return get_word(state, numbers[0])
+    return move_pc(state, numbers[0])
+
+
+def answers(calls):
+    """For each call in order: how many numbers it answers (always one), and that number."""
+    state = State()
+    given = []
+    start = 0
+    while start < len(calls):
+        call = calls[start]
+        end = start + 1 + NUMBERS_BEHIND[call]
+        given.append(1)
+        given.append(answer_call(state, call, calls[start + 1:end]))
+        start = end
+    return given
