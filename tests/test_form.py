@@ -25,6 +25,12 @@ ALLOWED_BUILTINS = set(
     " StopIteration".split()
 )
 PYTHONS_OWN = set(dir(builtins))
+NOT_USED = set(
+    "register mro elements open input version_info with_traceback add_note attrgetter breakpoint builtins compile"
+    " copyright credits delattr dir eval exec exit gc getattr globals hasattr help id importlib license locals"
+    " methodcaller os quit setattr super type vars sys".split()
+)
+METHODS_OF_VALUES = {"append", "bit_length"}
 NAMED = ((ast.Name, "id"), (ast.Attribute, "attr"), (ast.arg, "arg"), (ast.FunctionDef, "name"), (ast.ClassDef, "name"))
 
 
@@ -33,6 +39,12 @@ def name_of(node):
         if isinstance(node, kind):
             return getattr(node, part)
     return ""
+
+
+def drawn_from(text):
+    """The package's files that a file imports from."""
+    rows = [node for node in ast.parse(text).body if isinstance(node, ast.ImportFrom)]
+    return [row.module.split(".")[1] for row in rows]
 
 
 class FormTest(unittest.TestCase):
@@ -90,10 +102,61 @@ class FormTest(unittest.TestCase):
         def look(node):
             name = name_of(node)
             self.assertTrue(name == "__init__" or not name.startswith("_"), name)
+            self.assertNotIn(name, NOT_USED)
             if isinstance(node, ast.Name) and name in PYTHONS_OWN:
                 self.assertIn(name, ALLOWED_BUILTINS)
                 self.assertIsInstance(node.ctx, ast.Load)
         self.for_each_node(look)
+
+    def test_one_target_in_an_assignment(self):
+        def look(node):
+            if isinstance(node, ast.Assign):
+                self.assertEqual(len(node.targets), 1)
+                self.assertNotIsInstance(node.targets[0], (ast.Tuple, ast.List))
+        self.for_each_node(look)
+
+    def test_the_top_holds_plain_values_bound_once(self):
+        def look(text):
+            body = ast.parse(text).body
+            names = [node.targets[0].id for node in body if isinstance(node, ast.Assign)]
+            names += [node.name for node in body if isinstance(node, (ast.FunctionDef, ast.ClassDef))]
+            names += [alias.name for node in body if isinstance(node, ast.ImportFrom) for alias in node.names]
+            self.assertEqual(len(names), len(set(names)))
+            for node in body:
+                if isinstance(node, ast.Assign):
+                    ast.literal_eval(node.value)
+        self.for_each_file(look)
+
+    def test_no_local_is_called_like_an_import_a_class_or_pythons_own(self):
+        def look(text):
+            tree = ast.parse(text)
+            barred = {alias.name for node in tree.body if isinstance(node, ast.ImportFrom) for alias in node.names}
+            barred |= {node.name for node in tree.body if isinstance(node, ast.ClassDef)} | PYTHONS_OWN
+            for outer in [node for node in ast.walk(tree) if isinstance(node, ast.FunctionDef)]:
+                for node in ast.walk(outer):
+                    if isinstance(node, ast.arg) or isinstance(node, ast.Name) and isinstance(node.ctx, ast.Store):
+                        self.assertNotIn(name_of(node), barred)
+        self.for_each_file(look)
+
+    def test_methods(self):
+        own = set()
+        for path in FILES:
+            for node in ast.walk(ast.parse(path.read_text(encoding="utf-8"))):
+                if isinstance(node, ast.ClassDef):
+                    own |= {part.name for part in node.body if isinstance(part, ast.FunctionDef)}
+
+        def look(node):
+            if isinstance(node, ast.Call) and isinstance(node.func, ast.Attribute):
+                self.assertIn(node.func.attr, own | METHODS_OF_VALUES)
+        self.for_each_node(look)
+
+    def test_no_two_files_draw_from_one_another(self):
+        drawn = {path.stem: drawn_from(path.read_text(encoding="utf-8")) for path in FILES}
+        for name in drawn:
+            behind = list(drawn[name])
+            for other in behind:
+                behind += [further for further in drawn[other] if further not in behind]
+            self.assertNotIn(name, behind)
 
 
 if __name__ == "__main__":

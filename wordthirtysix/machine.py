@@ -1,18 +1,24 @@
 """The calls on the machine: a list of calls in, the list of their answers out."""
 
+from wordthirtysix.instructions import run
 from wordthirtysix.state import PLACES, WORD_LIMIT, State
 
 CLEAR = 1
 PUT = 2
 GET = 3
 MOVE_PC = 4
+CHANGE_FLAGS = 5
+RUN = 6
 
 # By a call's number: how many whole numbers stand behind it.
-NUMBERS_BEHIND = {1: 0, 2: 2, 3: 1, 4: 1}
+NUMBERS_BEHIND = {1: 0, 2: 2, 3: 1, 4: 1, 5: 1, 6: 1, 7: 0}
 
 DONE = 0
 REFUSED = -1
 STAYS = -1
+
+FLAGS_LIMIT = 16
+MOST_INSTRUCTIONS = 1000000
 
 
 def is_place(at):
@@ -27,14 +33,14 @@ def clear_all(state):
 def put_word(state, at, x):
     if not is_place(at) or x >= WORD_LIMIT:
         return REFUSED
-    state.keep_word(at, x)
+    state.words[at] = x
     return DONE
 
 
 def get_word(state, at):
     if not is_place(at):
         return REFUSED
-    return state.word_at(at)
+    return state.words[at]
 
 
 def move_pc(state, at):
@@ -47,6 +53,22 @@ def move_pc(state, at):
     return before
 
 
+def change_flags(state, x):
+    before = state.flags
+    if x == STAYS:
+        return before
+    if not 0 <= x < FLAGS_LIMIT:
+        return REFUSED
+    state.flags = x
+    return before
+
+
+def run_some(state, n):
+    if not 0 <= n <= MOST_INSTRUCTIONS:
+        return REFUSED
+    return run(state, n)
+
+
 def answer_call(state, call, numbers):
     if call == CLEAR:
         return clear_all(state)
@@ -54,7 +76,13 @@ def answer_call(state, call, numbers):
         return put_word(state, numbers[0], numbers[1])
     if call == GET:
         return get_word(state, numbers[0])
-    return move_pc(state, numbers[0])
+    if call == MOVE_PC:
+        return move_pc(state, numbers[0])
+    if call == CHANGE_FLAGS:
+        return change_flags(state, numbers[0])
+    if call == RUN:
+        return run_some(state, numbers[0])
+    return state.why
 
 
 def answers(calls):

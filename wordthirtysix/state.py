@@ -3,22 +3,29 @@
 PLACES = 262144
 WORD_LIMIT = 68719476736
 
+# The flags as bits of one number.
+V = 8
+C0 = 4
+C1 = 2
+ND = 1
+
 
 class State:
     """The words, PC, the flags, and what stopped the last run."""
 
     def __init__(self):
-        self.reset()
-
-    def reset(self):
-        # Only words that were put are held, so that clearing costs the same however often it comes.
-        self.words = {}
+        # Before the first tn_clear there's nothing: it brings the words.
+        self.words = []
         self.pc = 0
         self.flags = 0
         self.why = 0
 
-    def word_at(self, place):
-        return self.words.get(place, 0)
+    def reset(self):
+        self.words = [0] * PLACES
+        self.pc = 0
+        self.flags = 0
+        self.why = 0
 
-    def keep_word(self, place, word):
-        self.words[place] = word
+    def pass_over(self):
+        """The instruction at PC is not done, but the one behind it."""
+        self.pc = (self.pc + 1) % PLACES
